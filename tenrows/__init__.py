@@ -1,0 +1,1 @@
+"""Xiangqi: positions are read, and the moves there may be are told."""

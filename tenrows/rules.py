@@ -1,0 +1,33 @@
+"""Which moves there may be: those that leave the own general where no man of the other side could go."""
+
+from tenrows.board import POINTS, after_move, general_of, other_side, stands_for
+from tenrows.men import could_go
+
+
+def general_is_reached(board, side):
+    """Whether a man of the other side could go to this side's general."""
+    general = board.index(general_of(side))
+    other = other_side(side)
+    for point in range(POINTS):
+        if stands_for(board[point], other) and could_go(board, point, general):
+            return True
+    return False
+
+
+def may_move(board, side, start, end):
+    if not could_go(board, start, end):
+        return False
+    return not general_is_reached(after_move(board, start, end), side)
+
+
+def moves_from(board, side, start):
+    return [(start, end) for end in range(POINTS) if may_move(board, side, start, end)]
+
+
+def all_moves(board, side):
+    """Each move there may be, as (start, end), in the order of the names."""
+    found = []
+    for start in range(POINTS):
+        if stands_for(board[start], side):
+            found.extend(moves_from(board, side, start))
+    return found

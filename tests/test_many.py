@@ -1,0 +1,67 @@
+"""moves on many positions, each compared with the rules as reference.py tells them."""
+
+import unittest
+
+from tests.asking import text_of_men, told
+from tests.reference import lines
+
+MEN = "AABBNNRRCCPPPPPaabbnnrrccppppp"
+
+
+class Numbers:
+    """Numbers that look drawn by lot, and are the same each time."""
+
+    def __init__(self, seed):
+        self.state = seed
+
+    def below(self, limit):
+        self.state = (self.state * 6364136223846793005 + 1442695040888963407) % 2 ** 64
+        return (self.state >> 33) % limit
+
+
+def drawn(numbers, most_men):
+    places = {(3 + numbers.below(3), numbers.below(3)): "K", (3 + numbers.below(3), 7 + numbers.below(3)): "k"}
+    for step in range(numbers.below(most_men + 1)):
+        place = (numbers.below(9), numbers.below(10))
+        if place not in places:
+            places[place] = MEN[numbers.below(len(MEN))]
+    return places
+
+
+class Many(unittest.TestCase):
+    def compare(self, seed, most_men, times):
+        numbers = Numbers(seed)
+        for step in range(times):
+            places = drawn(numbers, most_men)
+            for side in "wb":
+                text = text_of_men(places, side)
+                self.assertEqual(told(text), lines(places, side == "w"), text)
+
+    def test_few_men(self):
+        self.compare(1, 5, 600)
+
+    def test_some_men(self):
+        self.compare(2, 20, 400)
+
+    def test_crowded(self):
+        self.compare(3, 90, 150)
+
+    def test_generals_that_see_one_another(self):
+        numbers = Numbers(4)
+        taken = 0
+        for step in range(400):
+            places = drawn(numbers, 12)
+            column = 3 + numbers.below(3)
+            places = {place: man for place, man in places.items() if place[0] != column and man not in "Kk"}
+            red, black = (column, numbers.below(3)), (column, 7 + numbers.below(3))
+            places[red], places[black] = "K", "k"
+            for side in "wb":
+                expected = lines(places, side == "w")
+                self.assertEqual(expected[0], "+")
+                self.assertEqual(told(text_of_men(places, side)), expected)
+                taken += f"{'abcdefghi'[column]}{red[1]}{'abcdefghi'[column]}{black[1]}" in expected
+        self.assertGreater(taken, 50)
+
+
+if __name__ == "__main__":
+    unittest.main()
