@@ -1,1 +1,1 @@
-"""Xiangqi: positions are read, and the moves there may be are told."""
+"""Xiangqi: positions are read, the moves there may be are told, and played."""

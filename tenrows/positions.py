@@ -1,18 +1,16 @@
 """The calls: each takes whole numbers and lists of bytes, and answers one list of whole numbers."""
 
-from tenrows.board import column_of, row_of
+from tenrows.board import after_move, other_side
 from tenrows.reading import read_position
 from tenrows.rules import all_moves, general_is_reached
+from tenrows.signs import MINUS, NEWLINE, PLUS
+from tenrows.writing import name_of_move, text_of_position
 
 TOO_LONG = -1
 OUT_OF_RANGE = -2
 NO_POSITION = -3
+NO_MOVE = -4
 LARGEST_MOST = 65536
-NEWLINE = 10
-PLUS = 43
-MINUS = 45
-LETTER_A = 97
-DIGIT_ZERO = 48
 
 
 def moves(k, most, text):
@@ -25,6 +23,22 @@ def moves(k, most, text):
     return sized(lines_of_moves(position[0], position[1]), most)
 
 
+def play(most, text, move):
+    """The text of the position that the move of this name leaves."""
+    if not 0 <= most <= LARGEST_MOST:
+        return [OUT_OF_RANGE]
+    position = read_position(text)
+    if position is None:
+        return [NO_POSITION]
+    board = position[0]
+    side = position[1]
+    points = move_called(board, side, move)
+    if points is None:
+        return [NO_MOVE]
+    left = after_move(board, points[0], points[1])
+    return sized(text_of_position(left, other_side(side)), most)
+
+
 def sized(told, most):
     if len(told) > most:
         return [TOO_LONG]
@@ -34,9 +48,13 @@ def sized(told, most):
 def lines_of_moves(board, side):
     lines = [PLUS if general_is_reached(board, side) else MINUS, NEWLINE]
     for start, end in all_moves(board, side):
-        lines.extend(name_of_point(start) + name_of_point(end) + [NEWLINE])
+        lines.extend(name_of_move(start, end) + [NEWLINE])
     return lines
 
 
-def name_of_point(point):
-    return [LETTER_A + column_of(point), DIGIT_ZERO + row_of(point)]
+def move_called(board, side, name):
+    """The move there may be that has this name, as (start, end); None if none has it."""
+    for start, end in all_moves(board, side):
+        if name_of_move(start, end) == name:
+            return (start, end)
+    return None

@@ -2,12 +2,8 @@
 
 from tenrows.board import BLACK, COLUMNS, FREE, POINTS, RED, ROWS
 from tenrows.board import general_of, in_palace, point_at
+from tenrows.signs import BLANK, NINE, ONE, SLASH, ZERO
 
-BLANK = 32
-SLASH = 47
-ZERO = 48
-ONE = 49
-NINE = 57
 SIDES = {119: "w", 98: "b"}
 MEN = {
     75: "K", 65: "A", 66: "B", 78: "N", 82: "R", 67: "C", 80: "P",

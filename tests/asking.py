@@ -1,6 +1,6 @@
 """What the tests share: texts made from lists of men, and answers turned into lines."""
 
-from tenrows.positions import moves
+from tenrows.positions import moves, play
 
 OPENING = "rnbakabnr/9/1c5c1/p1p1p1p1p/9/9/P1P1P1P1P/1C5C1/9/RNBAKABNR"
 
@@ -53,3 +53,36 @@ def names(text):
 def ends(text, start):
     """Where the man at start may go, in the order told, as one text."""
     return " ".join(name[2:] for name in names(text) if name[:2] == start)
+
+
+def played(text, move, most=65536):
+    """What play answers, whole."""
+    return play(most, signs(text), signs(move))
+
+
+def whole(text):
+    """The answer that tells this text."""
+    return [len(text)] + signs(text)
+
+
+def after(text, move):
+    """The text that a move leaves, made from the text alone."""
+    rows = [list("".join("." * int(sign) if sign.isdigit() else sign for sign in row)) for row in text[:-2].split("/")]
+    start = (9 - int(move[1]), ord(move[0]) - 97)
+    end = (9 - int(move[3]), ord(move[2]) - 97)
+    rows[end[0]][end[1]] = rows[start[0]][start[1]]
+    rows[start[0]][start[1]] = "."
+    left = "/".join("".join(row) for row in rows)
+    for free in range(9, 0, -1):
+        left = left.replace("." * free, str(free))
+    return left + (" b" if text[-1] == "w" else " w")
+
+
+class Fixed(list):
+    """A list that can't be changed: who tries fails."""
+
+    def refuse(self, *rest):
+        raise AssertionError("the list handed in was changed")
+
+    __setitem__ = __delitem__ = __iadd__ = __imul__ = refuse
+    append = extend = insert = pop = remove = clear = sort = reverse = refuse

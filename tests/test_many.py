@@ -1,8 +1,8 @@
-"""moves on many positions, each compared with the rules as reference.py tells them."""
+"""moves and play on many positions, each compared with the rules as reference.py tells them."""
 
 import unittest
 
-from tests.asking import text_of_men, told
+from tests.asking import played, text_of_men, told, whole
 from tests.reference import lines
 
 MEN = "AABBNNRRCCPPPPPaabbnnrrccppppp"
@@ -61,6 +61,30 @@ class Many(unittest.TestCase):
                 self.assertEqual(told(text_of_men(places, side)), expected)
                 taken += f"{'abcdefghi'[column]}{red[1]}{'abcdefghi'[column]}{black[1]}" in expected
         self.assertGreater(taken, 50)
+
+    def test_moves_are_played(self):
+        numbers = Numbers(5)
+        for step in range(60):
+            places = drawn(numbers, 3 + step)
+            for side, other in ("wb", "bw"):
+                text = text_of_men(places, side)
+                for move in lines(places, side == "w").splitlines()[1:]:
+                    left = dict(places)
+                    left[place_of(move[2:])] = left.pop(place_of(move[:2]))
+                    self.assertEqual(played(text, move), whole(text_of_men(left, other)), (text, move))
+
+    def test_other_names_are_refused(self):
+        numbers = Numbers(6)
+        for step in range(400):
+            places = drawn(numbers, 30)
+            side = "wb"[numbers.below(2)]
+            move = "".join("abcdefghi"[numbers.below(9)] + str(numbers.below(10)) for end in range(2))
+            there = move in lines(places, side == "w").splitlines()
+            self.assertEqual(played(text_of_men(places, side), move) == [-4], not there, move)
+
+
+def place_of(name):
+    return (ord(name[0]) - ord("a"), int(name[1]))
 
 
 if __name__ == "__main__":

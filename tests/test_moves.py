@@ -5,7 +5,7 @@ import io
 import unittest
 
 from tenrows.positions import moves
-from tests.asking import OPENING, answer, mark, names, position, signs, told
+from tests.asking import OPENING, Fixed, after, answer, mark, names, position, signs, told
 
 RED_OPENING_MOVES = """
     a0a1 a0a2 a3a4 b0a2 b0c2 b2a2 b2b1 b2b3 b2b4 b2b5 b2b6 b2b9 b2c2 b2d2 b2e2 b2f2 b2g2
@@ -17,19 +17,6 @@ BLACK_OPENING_MOVES = """
     c6c5 c9a7 c9e7 d9e8 e6e5 e9e8 f9e8 g6g5 g9e7 g9i7
     h7c7 h7d7 h7e7 h7f7 h7g7 h7h0 h7h3 h7h4 h7h5 h7h6 h7h8 h7i7 h9g7 h9i7 i6i5 i9i7 i9i8
 """
-
-
-def after(text, move):
-    """The text that a move leaves, made from the text alone."""
-    rows = [list("".join("." * int(sign) if sign.isdigit() else sign for sign in row)) for row in text[:-2].split("/")]
-    start = (9 - int(move[1]), ord(move[0]) - 97)
-    end = (9 - int(move[3]), ord(move[2]) - 97)
-    rows[end[0]][end[1]] = rows[start[0]][start[1]]
-    rows[start[0]][start[1]] = "."
-    left = "/".join("".join(row) for row in rows)
-    for free in range(9, 0, -1):
-        left = left.replace("." * free, str(free))
-    return left + (" b" if text[-1] == "w" else " w")
 
 
 class WholePositions(unittest.TestCase):
@@ -145,13 +132,6 @@ class NothingElse(unittest.TestCase):
                     self.assertEqual(given, signs(text))
 
     def test_list_handed_in_is_never_written_to(self):
-        class Fixed(list):
-            def refuse(self, *rest):
-                raise AssertionError("the list handed in was changed")
-
-            __setitem__ = __delitem__ = __iadd__ = __imul__ = refuse
-            append = extend = insert = pop = remove = clear = sort = reverse = refuse
-
         for text in (OPENING + " w", OPENING, "", position("Ke0 ke9", "b")):
             self.assertEqual(moves(0, 65536, Fixed(signs(text))), answer(text))
 
