@@ -1,1 +1,1 @@
-"""Xiangqi: positions are read, the moves there may be are told, and played."""
+"""Xiangqi: positions are read, the moves there may be are told, played and counted by depth."""

@@ -1,13 +1,14 @@
 """The board: its ninety points, the two sides, their palaces and halves.
 
 A point is the number 10 * column + row, so that points as numbers stand in the order of their names (a0, a1 .. i9).
-A board is a list of ninety texts: the letter of the man who stands on the point, or FREE.
+A board is a text of ninety signs, one for each point: the letter of the man who stands there, or FREE. So a board never
+changes, and can be looked up in a dict.
 """
 
 COLUMNS = 9
 ROWS = 10
 POINTS = 90
-FREE = ""
+FREE = "."
 RED = "w"
 BLACK = "b"
 
@@ -56,8 +57,8 @@ def on_own_half(side, point):
 
 
 def after_move(board, start, end):
-    """The board that a move leaves, as a list of its own: the board handed in is not changed."""
+    """The board that a move leaves."""
     left = list(board)
     left[end] = left[start]
     left[start] = FREE
-    return left
+    return "".join(left)

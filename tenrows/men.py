@@ -1,8 +1,43 @@
 """How each man goes, not minding what becomes of its own general."""
 
-from tenrows.board import FREE, ROWS
+from tenrows.board import FREE, POINTS, ROWS
 from tenrows.board import column_of, forward, general_of, in_palace, on_own_half, other_side, point_at, row_of
 from tenrows.board import side_of, stands_for
+
+# How far from their points, as numbers, the men who don't go along lines may come. Where such a step runs over the
+# edge of the board it ends on a point that could_go refuses, so only the first and the last point are minded.
+STEPS = {
+    "a": (-11, -9, 9, 11),
+    "b": (-22, -18, 18, 22),
+    "n": (-21, -19, -12, -8, 8, 12, 19, 21),
+    "p": (-10, -1, 1, 10),
+}
+# Those of them that don't end in line with their start.
+SLANTED_STEPS = (-22, -21, -19, -18, -12, -11, -9, -8, 8, 9, 11, 12, 18, 19, 21, 22)
+
+
+def ends_to_try(man, start):
+    """Points in their order, among which are all to which such a man could go."""
+    kind = man.lower()
+    if kind in STEPS:
+        return points_by_steps(start, STEPS[kind])
+    return points_in_line(start)
+
+
+def starts_to_try(end):
+    """Points among which are all from which a man could go to this one."""
+    return points_in_line(end) + points_by_steps(end, SLANTED_STEPS)
+
+
+def points_by_steps(point, steps):
+    return [point + step for step in steps if 0 <= point + step < POINTS]
+
+
+def points_in_line(point):
+    """The points of this one's column and row, in their order."""
+    lowest = point_at(column_of(point), 0)
+    before = list(range(row_of(point), lowest, ROWS))
+    return before + list(range(lowest, lowest + ROWS)) + list(range(point + ROWS, POINTS, ROWS))
 
 
 def could_go(board, start, end):

@@ -1,6 +1,7 @@
 """The calls: each takes whole numbers and lists of bytes, and answers one list of whole numbers."""
 
 from tenrows.board import after_move, other_side
+from tenrows.counting import ways_to_follow
 from tenrows.reading import read_position
 from tenrows.rules import all_moves, general_is_reached
 from tenrows.signs import MINUS, NEWLINE, PLUS
@@ -11,6 +12,7 @@ OUT_OF_RANGE = -2
 NO_POSITION = -3
 NO_MOVE = -4
 LARGEST_MOST = 65536
+LARGEST_DEPTH = 5
 
 
 def moves(k, most, text):
@@ -37,6 +39,16 @@ def play(most, text, move):
         return [NO_MOVE]
     left = after_move(board, points[0], points[1])
     return sized(text_of_position(left, other_side(side)), most)
+
+
+def count(k, depth, text):
+    """In how many ways so many moves may follow one another."""
+    if not 0 <= depth <= LARGEST_DEPTH:
+        return [OUT_OF_RANGE]
+    position = read_position(text)
+    if position is None:
+        return [NO_POSITION]
+    return [ways_to_follow(position[0], position[1], depth)]
 
 
 def sized(told, most):

@@ -34,7 +34,7 @@ def read_board(signs):
             return None
         for column, man in enumerate(men):
             board[point_at(column, ROWS - 1 - place)] = man
-    return board
+    return "".join(board)
 
 
 def split_rows(signs):

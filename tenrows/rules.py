@@ -1,15 +1,17 @@
 """Which moves there may be: those that leave the own general where no man of the other side could go."""
 
 from tenrows.board import POINTS, after_move, general_of, other_side, stands_for
-from tenrows.men import could_go
+from tenrows.men import could_go, ends_to_try, starts_to_try
 
 
 def general_is_reached(board, side):
-    """Whether a man of the other side could go to this side's general."""
+    """Whether a man of the other side could go to this side's general; never, once that has been taken."""
+    if general_of(side) not in board:
+        return False
     general = board.index(general_of(side))
     other = other_side(side)
-    for point in range(POINTS):
-        if stands_for(board[point], other) and could_go(board, point, general):
+    for start in starts_to_try(general):
+        if stands_for(board[start], other) and could_go(board, start, general):
             return True
     return False
 
@@ -21,7 +23,7 @@ def may_move(board, side, start, end):
 
 
 def moves_from(board, side, start):
-    return [(start, end) for end in range(POINTS) if may_move(board, side, start, end)]
+    return [(start, end) for end in ends_to_try(board[start], start) if may_move(board, side, start, end)]
 
 
 def all_moves(board, side):

@@ -1,6 +1,6 @@
 """What the tests share: texts made from lists of men, and answers turned into lines."""
 
-from tenrows.positions import moves, play
+from tenrows.positions import count, moves, play
 
 OPENING = "rnbakabnr/9/1c5c1/p1p1p1p1p/9/9/P1P1P1P1P/1C5C1/9/RNBAKABNR"
 
@@ -24,6 +24,17 @@ def position(men, side="w"):
         assert place not in places, man
         places[place] = man[0]
     return text_of_men(places, side)
+
+
+NO_POSITIONS = (
+    "", " ", " w", "x", "w", OPENING, OPENING + " ", OPENING + " x", OPENING + " W", OPENING + "  w", OPENING + " w ",
+    OPENING + " wb", " " + OPENING + " w", OPENING[:-1] + " w", OPENING + "/9 w", "9/" + OPENING + " w",
+    OPENING.replace("9", "45", 1) + " w", OPENING.replace("9", "8", 1) + " w", OPENING.replace("9", "90", 1) + " w",
+    OPENING.replace("9", "4x4", 1) + " w", OPENING.replace("K", "1") + " w", OPENING.replace("k", "1") + " w",
+    OPENING.replace("K", "k") + " w", OPENING.replace("9", "K8", 1) + " w", OPENING.replace("/", " ") + " w",
+    position("Ke3 kd9", "w"), position("Kg0 kd9", "w"), position("Ke0 kd6", "w"), position("ke0 Kd9", "w"),
+    "P" * 256, "/" * 254 + " w", (OPENING + " w").ljust(256),
+)
 
 
 def signs(text):
@@ -58,6 +69,11 @@ def ends(text, start):
 def played(text, move, most=65536):
     """What play answers, whole."""
     return play(most, signs(text), signs(move))
+
+
+def counted(text, depth, k=0):
+    """What count answers, whole."""
+    return count(k, depth, signs(text))
 
 
 def whole(text):

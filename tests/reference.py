@@ -90,12 +90,24 @@ def name(place):
     return "abcdefghi"[place[0]] + str(place[1])
 
 
-def lines(places, red):
-    """All that moves tells of a position, as one text."""
-    found = []
+def leavings(places, red):
+    """What each move there may be leaves, by the move's name."""
+    left_by_name = {}
     for place, there in goes(places, red):
         left = dict(places)
         left[there] = left.pop(place)
         if not reached(left, red):
-            found.append(name(place) + name(there))
-    return "\n".join(["+" if reached(places, red) else "-"] + sorted(set(found))) + "\n"
+            left_by_name[name(place) + name(there)] = left
+    return left_by_name
+
+
+def lines(places, red):
+    """All that moves tells of a position, as one text."""
+    return "\n".join(["+" if reached(places, red) else "-"] + sorted(leavings(places, red))) + "\n"
+
+
+def ways(places, red, depth):
+    """In how many ways so many moves may follow one another, gone through one by one."""
+    if depth == 0:
+        return 1
+    return sum(ways(left, not red, depth - 1) for left in leavings(places, red).values())

@@ -1,9 +1,9 @@
-"""moves and play on many positions, each compared with the rules as reference.py tells them."""
+"""The calls on many positions, each compared with the rules as reference.py tells them."""
 
 import unittest
 
-from tests.asking import played, text_of_men, told, whole
-from tests.reference import lines
+from tests.asking import counted, played, text_of_men, told, whole
+from tests.reference import lines, ways
 
 MEN = "AABBNNRRCCPPPPPaabbnnrrccppppp"
 
@@ -28,6 +28,15 @@ def drawn(numbers, most_men):
     return places
 
 
+def drawn_seeing(numbers, most_men):
+    """Generals that see one another, among other men; and the name of the move by which red's takes black's."""
+    column = 3 + numbers.below(3)
+    places = {place: man for place, man in drawn(numbers, most_men).items() if place[0] != column and man not in "Kk"}
+    red, black = numbers.below(3), 7 + numbers.below(3)
+    places[column, red], places[column, black] = "K", "k"
+    return places, f"{'abcdefghi'[column]}{red}{'abcdefghi'[column]}{black}"
+
+
 class Many(unittest.TestCase):
     def compare(self, seed, most_men, times):
         numbers = Numbers(seed)
@@ -50,16 +59,12 @@ class Many(unittest.TestCase):
         numbers = Numbers(4)
         taken = 0
         for step in range(400):
-            places = drawn(numbers, 12)
-            column = 3 + numbers.below(3)
-            places = {place: man for place, man in places.items() if place[0] != column and man not in "Kk"}
-            red, black = (column, numbers.below(3)), (column, 7 + numbers.below(3))
-            places[red], places[black] = "K", "k"
+            places, name = drawn_seeing(numbers, 12)
             for side in "wb":
                 expected = lines(places, side == "w")
                 self.assertEqual(expected[0], "+")
                 self.assertEqual(told(text_of_men(places, side)), expected)
-                taken += f"{'abcdefghi'[column]}{red[1]}{'abcdefghi'[column]}{black[1]}" in expected
+                taken += name in expected
         self.assertGreater(taken, 50)
 
     def test_moves_are_played(self):
@@ -81,6 +86,37 @@ class Many(unittest.TestCase):
             move = "".join("abcdefghi"[numbers.below(9)] + str(numbers.below(10)) for end in range(2))
             there = move in lines(places, side == "w").splitlines()
             self.assertEqual(played(text_of_men(places, side), move) == [-4], not there, move)
+
+
+class ManyCounted(unittest.TestCase):
+    def compare(self, places, depths):
+        for side in "wb":
+            text = text_of_men(places, side)
+            for depth in depths:
+                self.assertEqual(counted(text, depth), [ways(places, side == "w", depth)], (text, depth))
+
+    def test_few_men(self):
+        numbers = Numbers(7)
+        for step in range(40):
+            self.compare(drawn(numbers, 4), (0, 1, 2))
+        for step in range(8):
+            self.compare(drawn(numbers, 3), (3,))
+
+    def test_some_men(self):
+        numbers = Numbers(8)
+        for step in range(4):
+            self.compare(drawn(numbers, 20), (1, 2))
+
+    def test_generals_that_see_one_another(self):
+        numbers = Numbers(9)
+        for step in range(40):
+            self.compare(drawn_seeing(numbers, 4)[0], (1, 2, 3))
+
+    def test_deep(self):
+        numbers = Numbers(10)
+        for step in range(10):
+            self.compare(drawn(numbers, 1), (4,))
+            self.compare(drawn_seeing(numbers, 2)[0], (4,))
 
 
 def place_of(name):

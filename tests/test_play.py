@@ -4,6 +4,7 @@ import contextlib
 import io
 import unittest
 
+from tenrows.board import FREE
 from tenrows.positions import play
 from tenrows.reading import read_board, read_position
 from tests.asking import OPENING, Fixed, after, answer, names, played, position, signs, whole
@@ -227,15 +228,15 @@ class EveryMove(unittest.TestCase):
                     self.read_again(text, move, given[1:])
 
     def read_again(self, text, move, left):
-        board = read_position(signs(text))[0]
+        board = list(read_position(signs(text))[0])
         start = (ord(move[0]) - 97) * 10 + int(move[1])
         end = (ord(move[2]) - 97) * 10 + int(move[3])
         man, taken = board[start], board[end]
-        board[end], board[start] = man, ""
+        board[end], board[start] = man, FREE
         side = "b" if text[-1] == "w" else "w"
-        self.assertEqual(read_board(left[:-2]), board)
+        self.assertEqual(read_board(left[:-2]), "".join(board))
         self.assertEqual(bytes(left[-2:]).decode("ascii"), " " + side)
-        self.assertEqual(read_position(left), None if taken in ("K", "k") else (board, side))
+        self.assertEqual(read_position(left), None if taken in ("K", "k") else ("".join(board), side))
 
 
 class Most(unittest.TestCase):

@@ -3,18 +3,9 @@
 import unittest
 
 from tenrows.positions import play
-from tests.asking import OPENING, names, played, position, signs
+from tests.asking import NO_POSITIONS, OPENING, names, played, position, signs
 
 POINTS = [column + row for column in "abcdefghi" for row in "0123456789"]
-NO_POSITIONS = (
-    "", " ", " w", "x", "w", OPENING, OPENING + " ", OPENING + " x", OPENING + " W", OPENING + "  w", OPENING + " w ",
-    OPENING + " wb", " " + OPENING + " w", OPENING[:-1] + " w", OPENING + "/9 w", "9/" + OPENING + " w",
-    OPENING.replace("9", "45", 1) + " w", OPENING.replace("9", "8", 1) + " w", OPENING.replace("9", "90", 1) + " w",
-    OPENING.replace("9", "4x4", 1) + " w", OPENING.replace("K", "1") + " w", OPENING.replace("k", "1") + " w",
-    OPENING.replace("K", "k") + " w", OPENING.replace("9", "K8", 1) + " w", OPENING.replace("/", " ") + " w",
-    position("Ke3 kd9", "w"), position("Kg0 kd9", "w"), position("Ke0 kd6", "w"), position("ke0 Kd9", "w"),
-    "P" * 256, "/" * 254 + " w", (OPENING + " w").ljust(256),
-)
 
 
 class Names(unittest.TestCase):
