@@ -1,1 +1,1 @@
-"""Xiangqi: positions are read, the moves there may be are told, played and counted by depth."""
+"""Xiangqi: positions are read; moves are told, played and counted by depth; wins that can be forced are found."""

@@ -5,14 +5,17 @@ from tenrows.counting import ways_to_follow
 from tenrows.reading import read_position
 from tenrows.rules import all_moves, general_is_reached
 from tenrows.signs import MINUS, NEWLINE, PLUS
+from tenrows.winning import find_win
 from tenrows.writing import name_of_move, text_of_position
 
 TOO_LONG = -1
 OUT_OF_RANGE = -2
 NO_POSITION = -3
 NO_MOVE = -4
+NO_WIN = 0
 LARGEST_MOST = 65536
 LARGEST_DEPTH = 5
+LARGEST_WIN = 3
 
 
 def moves(k, most, text):
@@ -49,6 +52,19 @@ def count(k, depth, text):
     if position is None:
         return [NO_POSITION]
     return [ways_to_follow(position[0], position[1], depth)]
+
+
+def win(k, most, text):
+    """In how few moves, up to most, who goes can leave the other without a move, and the first of these."""
+    if not 1 <= most <= LARGEST_WIN:
+        return [OUT_OF_RANGE]
+    position = read_position(text)
+    if position is None:
+        return [NO_POSITION]
+    found = find_win(position[0], position[1], most)
+    if found is None:
+        return [NO_WIN]
+    return [found[0]] + name_of_move(found[1], found[2])
 
 
 def sized(told, most):

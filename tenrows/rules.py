@@ -33,3 +33,18 @@ def all_moves(board, side):
         if stands_for(board[start], side):
             found.extend(moves_from(board, side, start))
     return found
+
+
+def has_move(board, side):
+    """Whether there is a move at all: the first that is found will do."""
+    for start in range(POINTS):
+        if stands_for(board[start], side) and has_move_from(board, side, start):
+            return True
+    return False
+
+
+def has_move_from(board, side, start):
+    for end in ends_to_try(board[start], start):
+        if may_move(board, side, start, end):
+            return True
+    return False

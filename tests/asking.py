@@ -1,6 +1,6 @@
 """What the tests share: texts made from lists of men, and answers turned into lines."""
 
-from tenrows.positions import count, moves, play
+from tenrows.positions import count, moves, play, win
 
 OPENING = "rnbakabnr/9/1c5c1/p1p1p1p1p/9/9/P1P1P1P1P/1C5C1/9/RNBAKABNR"
 
@@ -74,6 +74,16 @@ def played(text, move, most=65536):
 def counted(text, depth, k=0):
     """What count answers, whole."""
     return count(k, depth, signs(text))
+
+
+def won(text, most=3, k=0):
+    """What win answers, whole."""
+    return win(k, most, signs(text))
+
+
+def winning(number, move):
+    """The answer that tells a win."""
+    return [number] + signs(move)
 
 
 def whole(text):

@@ -111,3 +111,28 @@ def ways(places, red, depth):
     if depth == 0:
         return 1
     return sum(ways(left, not red, depth - 1) for left in leavings(places, red).values())
+
+
+def least_win(places, red, most):
+    """In how many moves who goes wins at the soonest, up to most, and by which first: (m, name), or None.
+
+    The moves are gone through once; as soon as one wins, only those that win sooner are looked for.
+    """
+    best = None
+    for called, left in sorted(leavings(places, red).items()):
+        more = longest_stand(left, not red, most - 1) if most > 0 else None
+        if more is not None:
+            best = (more + 1, called)
+            most = more
+    return best
+
+
+def longest_stand(places, red, most):
+    """How many moves more the other needs at the most until who goes has none; None if more than most, or never."""
+    longest = 0
+    for left in leavings(places, red).values():
+        stand = least_win(left, not red, most)
+        if stand is None:
+            return None
+        longest = max(longest, stand[0])
+    return longest

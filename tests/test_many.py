@@ -2,10 +2,11 @@
 
 import unittest
 
-from tests.asking import counted, played, text_of_men, told, whole
-from tests.reference import lines, ways
+from tests.asking import counted, played, text_of_men, told, whole, winning, won
+from tests.reference import least_win, lines, ways
 
 MEN = "AABBNNRRCCPPPPPaabbnnrrccppppp"
+SHORT_MEN = "ABNPabnp"
 
 
 class Numbers:
@@ -19,19 +20,20 @@ class Numbers:
         return (self.state >> 33) % limit
 
 
-def drawn(numbers, most_men):
+def drawn(numbers, most_men, men=MEN):
     places = {(3 + numbers.below(3), numbers.below(3)): "K", (3 + numbers.below(3), 7 + numbers.below(3)): "k"}
     for step in range(numbers.below(most_men + 1)):
         place = (numbers.below(9), numbers.below(10))
         if place not in places:
-            places[place] = MEN[numbers.below(len(MEN))]
+            places[place] = men[numbers.below(len(men))]
     return places
 
 
-def drawn_seeing(numbers, most_men):
+def drawn_seeing(numbers, most_men, men=MEN):
     """Generals that see one another, among other men; and the name of the move by which red's takes black's."""
     column = 3 + numbers.below(3)
-    places = {place: man for place, man in drawn(numbers, most_men).items() if place[0] != column and man not in "Kk"}
+    others = drawn(numbers, most_men, men)
+    places = {place: man for place, man in others.items() if place[0] != column and man not in "Kk"}
     red, black = numbers.below(3), 7 + numbers.below(3)
     places[column, red], places[column, black] = "K", "k"
     return places, f"{'abcdefghi'[column]}{red}{'abcdefghi'[column]}{black}"
@@ -117,6 +119,43 @@ class ManyCounted(unittest.TestCase):
         for step in range(10):
             self.compare(drawn(numbers, 1), (4,))
             self.compare(drawn_seeing(numbers, 2)[0], (4,))
+
+
+class ManyWon(unittest.TestCase):
+    def compare(self, places, most):
+        """How many moves the win takes, if there is one, of red and of black."""
+        numbers = []
+        for side in "wb":
+            text = text_of_men(places, side)
+            expected = least_win(places, side == "w", most)
+            self.assertEqual(won(text, most), winning(*expected) if expected else [0], (text, most))
+            numbers.append(expected[0] if expected else 0)
+        return numbers
+
+    def test_in_one(self):
+        numbers = Numbers(11)
+        found = []
+        for step in range(100):
+            found += self.compare(drawn(numbers, 12), 1)
+            found += self.compare(drawn_seeing(numbers, 6)[0], 1)
+        self.assertGreater(found.count(1), 50)
+
+    def test_in_two(self):
+        numbers = Numbers(12)
+        found = []
+        for step in range(40):
+            found += self.compare(drawn(numbers, 3), 2)
+            found += self.compare(drawn_seeing(numbers, 4)[0], 2)
+        self.assertGreater(found.count(2), 3)
+
+    def test_in_three(self):
+        numbers = Numbers(13)
+        found = []
+        for step in range(40):
+            found += self.compare(drawn(numbers, 5, SHORT_MEN), 3)
+            found += self.compare(drawn_seeing(numbers, 3)[0], 3)
+        self.assertGreater(found.count(3), 3)
+        self.assertGreater(found.count(2), 0)
 
 
 def place_of(name):
